@@ -1,0 +1,1 @@
+"""Packages' versions, chosen by what each asks."""
