@@ -6,8 +6,12 @@ CHOOSE = [4]
 BEGIN = [5]
 
 
+def numbers_of(text):
+    return list(text.encode("latin-1")) if isinstance(text, str) else list(text)
+
+
 def row(text):
-    numbers = list(text.encode("latin-1")) if isinstance(text, str) else list(text)
+    numbers = numbers_of(text)
     return [len(numbers)] + numbers
 
 

@@ -6,8 +6,9 @@ import re
 import unittest
 
 from versionpick.packs import answers
+from versionpick.versions import compare
 
-from tests.calls import BEGIN, CHOOSE, add, ask, joined, want
+from tests.calls import BEGIN, CHOOSE, add, ask, joined, numbers_of, want
 
 NUMBER = "(?:0|[1-9][0-9]{0,8})"
 WORD = "(?:%s|[0-9]*[A-Za-z-][0-9A-Za-z-]*)" % NUMBER
@@ -156,6 +157,16 @@ def some_condition(chance):
     return form % tuple(ones[:form.count("%s")])
 
 
+def some_text(chance):
+    """Most often nearly a version, so that a single byte decides whether it is one."""
+    text = some_version(chance)
+    while chance.random() < 0.3:
+        place = chance.randrange(len(text) + 1)
+        put = chance.choice(("", ".", "-", "0", "1", "9", "a", "Z", "_", " ", "\x00", "\xff", "123456789"))
+        text = text[:place] + put + text[place + chance.randrange(2):]
+    return text
+
+
 def some_session(chance):
     """The calls, and what the model answers."""
     model, calls, expected = Model(), [], []
@@ -183,6 +194,19 @@ class PlainModel(unittest.TestCase):
             calls, expected = some_session(chance)
             with self.subTest(turn=turn):
                 self.assertEqual(answers(calls), expected)
+
+    def test_many_pairs(self):
+        chance = random.Random(5)
+        seen = {}
+        for turn in range(20000):
+            one = some_text(chance)
+            two = one if chance.random() < 0.1 else some_text(chance)
+            expected = compared(one, two)
+            expected = -2 if expected is None else expected
+            seen[expected] = seen.get(expected, 0) + 1
+            if compare(numbers_of(one), numbers_of(two)) != [expected]:
+                self.fail((one, two, expected))
+        self.assertGreater(min(seen[answer] for answer in (-2, -1, 0, 1)), 1000)
 
 
 if __name__ == "__main__":

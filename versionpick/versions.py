@@ -81,6 +81,16 @@ def read_version(text):
     return (numbers[0], numbers[1], numbers[2], 0, tuple(words))
 
 
+def compare(a, b):
+    left = read_version(a)
+    right = read_version(b)
+    if left is None or right is None:
+        return [-2]
+    if left < right:
+        return [-1]
+    return [1 if left > right else 0]
+
+
 # The first of the numbers in which the one at this place is raised by one.
 def first_of_next(version, place):
     numbers = list(version[:place]) + [version[place] + 1, 0, 0]
