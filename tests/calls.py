@@ -56,7 +56,7 @@ def chosen(*numbers):
     return [count] + list(numbers) + [-1] * (32 - len(numbers))
 
 
-def holds(condition, version):
+def is_taken(condition, version):
     """Whether choose takes the version where it is wanted so."""
     answer = last(add("p", version), want("p", condition), CHOOSE)
     if answer == chosen(0):

@@ -1,6 +1,6 @@
 import unittest
 
-from tests.calls import CHOOSE, add, ask, chosen, holds, last, want
+from tests.calls import CHOOSE, add, ask, chosen, is_taken, last, want
 from tests.texts import IN_ORDER, NO_CONDITIONS
 
 
@@ -8,7 +8,7 @@ class Order(unittest.TestCase):
     def test_every_pair(self):
         for low in range(len(IN_ORDER)):
             for high in range(len(IN_ORDER)):
-                found = [holds(sign + IN_ORDER[high], IN_ORDER[low]) for sign in ("<", "<=", "=", "", ">=", ">")]
+                found = [is_taken(sign + IN_ORDER[high], IN_ORDER[low]) for sign in ("<", "<=", "=", "", ">=", ">")]
                 expected = [low < high, low <= high, low == high, low == high, low >= high, low > high]
                 if found != expected:
                     self.fail((IN_ORDER[low], IN_ORDER[high], found))
@@ -18,10 +18,10 @@ class OneCondition(unittest.TestCase):
     def check(self, condition, inside, outside):
         for version in inside:
             with self.subTest(condition=condition, version=version):
-                self.assertTrue(holds(condition, version))
+                self.assertTrue(is_taken(condition, version))
         for version in outside:
             with self.subTest(condition=condition, version=version):
-                self.assertFalse(holds(condition, version))
+                self.assertFalse(is_taken(condition, version))
 
     def test_every_version(self):
         self.check("*", IN_ORDER, ())

@@ -6,7 +6,7 @@ import re
 import unittest
 
 from versionpick.packs import answers
-from versionpick.versions import compare
+from versionpick.versions import compare, holds
 
 from tests.calls import BEGIN, CHOOSE, add, ask, joined, numbers_of, want
 
@@ -16,6 +16,7 @@ VERSION = re.compile(r"(%s)\.(%s)\.(%s)(?:-(%s(?:\.%s)*))?" % (NUMBER, NUMBER, N
 NAMES = ("a", "b", "c", "d", "e")
 OFTEN = ("0.0.1", "0.1.0", "1.0.0", "1.0.0-a", "1.1.0", "1.0.1", "2.0.0-0", "2.0.0", "2.0.0-a.1", "2.0.0-a.10")
 WRONG = ("", "1.0", "01.0.0", "1.0.0-", "1.0.0-01", "x", "1.0.0-a..b")
+PUT = ("", ".", "-", "0", "1", "9", "a", "Z", "_", " ", "|", "*", "<", ">", "=", "~", "^", "\x00", "\xff", "123456789")
 
 
 def compared(one, two):
@@ -53,10 +54,9 @@ def one_holds(condition, version):
     if sign in ("~", "^"):
         numbers = [int(number) for number in VERSION.fullmatch(limit).group(1, 2, 3)]
         place = 1 if sign == "~" else min([k for k in range(3) if numbers[k]], default=2)
-        end = [str(number) for number in numbers[:place] + [numbers[place] + 1] + [0, 0]]
-        # The end may have ten digits, which is no version: nothing is behind it then.
-        before = compared(version, ".".join(end[:3]) + "-0")
-        return found >= 0 and (before is None or before < 0)
+        end = (numbers[:place] + [numbers[place] + 1] + [0, 0])[:3]
+        # No version with the numbers of the end comes before its word 0: so the numbers alone decide.
+        return found >= 0 and [int(number) for number in VERSION.fullmatch(version).group(1, 2, 3)] < end
     wanted = {">=": (0, 1), ">": (1,), "<=": (-1, 0), "<": (-1,), "=": (0,), "": (0,)}
     return found in wanted[sign]
 
@@ -145,7 +145,7 @@ def some_version(chance):
         return chance.choice(WRONG)
     if chance.random() < 0.7:
         return chance.choice(OFTEN)
-    numbers = ".".join(chance.choice("0012") for turn in range(3))
+    numbers = ".".join(chance.choice(("0", "0", "1", "2", "2", "999999999")) for turn in range(3))
     words = ".".join(chance.choice(("0", "1", "2", "10", "a", "b", "A", "-", "0a")) for turn in range(2))
     return numbers + chance.choice(("", "-" + words))
 
@@ -157,12 +157,11 @@ def some_condition(chance):
     return form % tuple(ones[:form.count("%s")])
 
 
-def some_text(chance):
-    """Most often nearly a version, so that a single byte decides whether it is one."""
-    text = some_version(chance)
-    while chance.random() < 0.3:
+def nearly(chance, text, often):
+    """The text with a few bytes changed, so that a single byte decides whether it is still such."""
+    while chance.random() < often:
         place = chance.randrange(len(text) + 1)
-        put = chance.choice(("", ".", "-", "0", "1", "9", "a", "Z", "_", " ", "\x00", "\xff", "123456789"))
+        put = chance.choice(PUT)
         text = text[:place] + put + text[place + chance.randrange(2):]
     return text
 
@@ -199,14 +198,27 @@ class PlainModel(unittest.TestCase):
         chance = random.Random(5)
         seen = {}
         for turn in range(20000):
-            one = some_text(chance)
-            two = one if chance.random() < 0.1 else some_text(chance)
+            one = nearly(chance, some_version(chance), 0.3)
+            two = one if chance.random() < 0.1 else nearly(chance, some_version(chance), 0.3)
             expected = compared(one, two)
             expected = -2 if expected is None else expected
             seen[expected] = seen.get(expected, 0) + 1
             if compare(numbers_of(one), numbers_of(two)) != [expected]:
                 self.fail((one, two, expected))
         self.assertGreater(min(seen[answer] for answer in (-2, -1, 0, 1)), 1000)
+
+    def test_many_conditions(self):
+        chance = random.Random(6)
+        seen = {}
+        for turn in range(20000):
+            condition = nearly(chance, some_condition(chance), 0.2)
+            version = nearly(chance, some_version(chance), 0.1)
+            found = condition_holds(condition, version)
+            expected = -2 if found is None or not VERSION.fullmatch(version) else int(found)
+            seen[expected] = seen.get(expected, 0) + 1
+            if holds(numbers_of(condition), numbers_of(version)) != [expected]:
+                self.fail((condition, version, expected))
+        self.assertGreater(min(seen[answer] for answer in (-2, 0, 1)), 1000)
 
 
 if __name__ == "__main__":

@@ -163,3 +163,11 @@ def keeps_group(version, group):
 # The condition and the version as they have been read.
 def condition_holds(groups, version):
     return any([keeps_group(version, group) for group in groups])
+
+
+def holds(condition, version):
+    groups = read_condition(condition)
+    read = read_version(version)
+    if groups is None or read is None:
+        return [-2]
+    return [1 if condition_holds(groups, read) else 0]
